@@ -88,3 +88,86 @@ func TestRecipeArgumentsStay(t *testing.T) {
 		}
 	}
 }
+
+// scribbleNumbers is scribble for numbers.
+func scribbleNumbers(answer []int64) {
+	all := answer[:cap(answer)]
+	for i := range all {
+		all[i] = -5
+	}
+}
+
+// nvAnswers asks everything of chapter 3 and writes over each answer, so that the next round sees what is shared.
+func nvAnswers(v impl.Nv, values []int64, writes []impl.Write) [][]int64 {
+	var told [][]int64
+	tell := func(list []int64, ok bool) {
+		if ok {
+			told = append(told, slices.Clone(list))
+			scribbleNumbers(list)
+		}
+	}
+	made, ok := impl.NvNew(values)
+	tell(made.Words, ok)
+	read, count, ok := impl.NvRead(v)
+	tell(read, ok)
+	told = append(told, []int64{count})
+	change, _ := impl.NvWrites(v, values)
+	for i, w := range change {
+		told = append(told, []int64{w.At, w.Value})
+		change[i] = impl.Write{At: -5, Value: -5}
+	}
+	for n := range int64(6) {
+		applied, ok := impl.NvApply(v, writes, n)
+		tell(applied.Words, ok)
+		put, ok := impl.NvPut(v, values, n)
+		tell(put.Words, ok)
+	}
+	return told
+}
+
+func TestNvArgumentsStay(t *testing.T) {
+	v := impl.Nv{Size: 2, Words: roomy(twoCopies(copyWords(3, 0, 8, 9), copyWords(4, 0, 3, 7)).Words, 77)}
+	values := roomy([]int64{5, 6}, 77)
+	writes := roomy([]impl.Write{{At: 0, Value: 1}, {At: 7, Value: 2}}, impl.Write{At: 77})
+	words, given, steps := slices.Clone(v.Words[:cap(v.Words)]), slices.Clone(values[:cap(values)]), slices.Clone(writes[:cap(writes)])
+	first := nvAnswers(v, values, writes)
+	second := nvAnswers(v, values, writes)
+	if len(first) != 20 || !slices.EqualFunc(first, second, slices.Equal) {
+		t.Error("other answers", first, second)
+	}
+	if !slices.Equal(v.Words[:cap(v.Words)], words) || !slices.Equal(values[:cap(values)], given) || !slices.Equal(writes[:cap(writes)], steps) {
+		t.Error("arguments", v, values, writes)
+	}
+}
+
+// registerAnswers asks everything of chapter 4 and writes over each answer.
+func registerAnswers(regs []string, events []impl.Event) []string {
+	var told []string
+	tell := func(list []string, ok bool) {
+		told = append(told, list...)
+		scribble(list)
+	}
+	tell(impl.Cleared(), true)
+	tell(impl.Fold(events))
+	for at := range int64(9) {
+		tell(impl.Extend(regs, at, "m"))
+	}
+	for mask := range int64(257) {
+		tell(impl.Shown(regs, mask))
+		c, _ := impl.Composite(regs, mask)
+		told = append(told, c)
+	}
+	return told
+}
+
+func TestRegisterArgumentsStay(t *testing.T) {
+	regs := roomy(namedRegisters(), "mark")
+	events := roomy([]impl.Event{{Register: 3, Measure: "a"}, {Register: 7, Measure: "b"}}, impl.Event{Measure: "mark"})
+	before, steps := slices.Clone(regs[:cap(regs)]), slices.Clone(events[:cap(events)])
+	first := registerAnswers(regs, events)
+	expect(t, "again", registerAnswers(regs, events), first...)
+	expect(t, "registers", regs[:cap(regs)], before...)
+	if !slices.Equal(events[:cap(events)], steps) {
+		t.Error("events", events)
+	}
+}
