@@ -171,3 +171,85 @@ func TestRegisterArgumentsStay(t *testing.T) {
 		t.Error("events", events)
 	}
 }
+
+// rootAnswers asks everything of chapter 5 and writes over each answer.
+func rootAnswers(r impl.Root) []string {
+	var told []string
+	tell := func(answer impl.Root, ok bool) {
+		told = append(told, answer.Key, nameOf(answer.Boots.Size), nameOf(impl.BootsOf(answer)))
+		for _, word := range answer.Boots.Words {
+			told = append(told, nameOf(word))
+		}
+		told = append(told, answer.Regs...)
+		scribbleNumbers(answer.Boots.Words)
+		scribble(answer.Regs)
+	}
+	tell(impl.RootNew(r.Key))
+	tell(impl.PowerOff(r), true)
+	for n := range int64(9) {
+		tell(impl.PowerOn(r, n))
+		tell(impl.RootExtend(r, n, "m"))
+	}
+	for mask := range int64(257) {
+		q, _ := impl.Quote(r, "x", mask)
+		told = append(told, q)
+	}
+	return told
+}
+
+func TestRootArgumentsStay(t *testing.T) {
+	for _, up := range []bool{true, false} {
+		r := impl.Root{Key: "!k", Boots: twoCopies(copyWords(4, 0, 3), copyWords(5, 0, 4))}
+		r.Boots.Words = roomy(r.Boots.Words, 77)
+		if up {
+			r.Up, r.Regs = true, roomy(namedRegisters(), "mark")
+		}
+		words, regs := slices.Clone(r.Boots.Words[:cap(r.Boots.Words)]), slices.Clone(r.Regs[:cap(r.Regs)])
+		first := rootAnswers(r)
+		expect(t, "again", rootAnswers(r), first...)
+		expect(t, "registers", r.Regs[:cap(r.Regs)], regs...)
+		if !slices.Equal(r.Boots.Words[:cap(r.Boots.Words)], words) {
+			t.Error("words", r.Boots.Words)
+		}
+	}
+}
+
+// sealAnswers asks everything of chapter 6 and writes over each answer.
+func sealAnswers(v impl.Vault, regs []string) []impl.Seal {
+	var told []impl.Seal
+	tell := func(answer impl.Vault, done bool, ok bool) {
+		told = append(told, impl.Seal{Slot: answer.Stage}, answer.Pending)
+		told = append(told, answer.Seals...)
+		all := answer.Seals[:cap(answer.Seals)]
+		for i := range all {
+			all[i] = impl.Seal{Secret: "scribbled"}
+		}
+	}
+	for slot := range int64(impl.MaxSeals) {
+		for cut := range int64(putWrites + 1) {
+			tell(impl.PutSeal(v, sealAt(slot, "!new"), cut))
+			tell(impl.PutSeal(v, impl.Seal{Slot: slot}, cut))
+			tell(impl.Mend(v, cut))
+			tell(impl.SealNow(v, regs, slot, 5, "!now", cut))
+		}
+		secret, code := impl.Unseal(v, regs, slot)
+		told = append(told, impl.Seal{Slot: code, Secret: secret})
+	}
+	return told
+}
+
+func TestSealArgumentsStay(t *testing.T) {
+	for _, v := range []impl.Vault{{}, vaultOf(), vaultOf(2, 5), vaultOf(0, 1, 2, 3, 4, 5, 6, 7), underWay(vaultOf(2, 5), 1, sealAt(3, "a")), underWay(vaultOf(2, 5), 2, sealAt(3, "a")), underWay(vaultOf(2, 5), 2, sealAt(2, "a")), underWay(vaultOf(2, 5), 2, impl.Seal{Slot: 2})} {
+		v.Seals = roomy(v.Seals, sealAt(7, "mark"))
+		regs := roomy(namedRegisters(), "mark")
+		seals, before := slices.Clone(v.Seals[:cap(v.Seals)]), slices.Clone(regs[:cap(regs)])
+		first := sealAnswers(v, regs)
+		if again := sealAnswers(v, regs); !slices.Equal(again, first) {
+			t.Error("other answers", first, again)
+		}
+		if !slices.Equal(v.Seals[:cap(v.Seals)], seals) {
+			t.Error("seals", v.Seals)
+		}
+		expect(t, "registers", regs[:cap(regs)], before...)
+	}
+}
