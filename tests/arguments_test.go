@@ -253,3 +253,114 @@ func TestSealArgumentsStay(t *testing.T) {
 		expect(t, "registers", regs[:cap(regs)], before...)
 	}
 }
+
+// deviceAnswers asks everything of chapter 7 and writes over each answer.
+func deviceAnswers(d impl.Device, listed []impl.Image) []string {
+	var told []string
+	tell := func(answer impl.Device, code int64) {
+		told = append(told, answer.Name, answer.Root.Key, nameOf(code), nameOf(answer.Vault.Stage), answer.Vault.Pending.Secret)
+		for _, word := range answer.Root.Boots.Words {
+			told = append(told, nameOf(word))
+		}
+		for _, s := range answer.Vault.Seals {
+			told = append(told, nameOf(s.Slot), s.Secret)
+		}
+		for _, image := range answer.Loaded {
+			told = append(told, image.Name, nameOf(image.Version))
+		}
+		for _, e := range answer.Log {
+			told = append(told, nameOf(e.Register), e.Measure)
+		}
+		told = append(told, answer.Root.Regs...)
+		scribbleDevice(answer)
+	}
+	for n := int64(-1); n < 9; n++ {
+		tell(impl.Restart(d, n))
+		tell(impl.Note(d, n, "m"))
+		tell(impl.Load(d, impl.Image{Name: "a", Version: n}))
+	}
+	if impl.DeviceOk(d) {
+		told = append(told, "right")
+	}
+	if impl.Trusted(d, listed) {
+		told = append(told, "trusted")
+	}
+	return told
+}
+
+func scribbleDevice(d impl.Device) {
+	scribbleNumbers(d.Root.Boots.Words)
+	scribble(d.Root.Regs)
+	seals, loaded, log := d.Vault.Seals[:cap(d.Vault.Seals)], d.Loaded[:cap(d.Loaded)], d.Log[:cap(d.Log)]
+	for i := range seals {
+		seals[i] = impl.Seal{Secret: "scribbled"}
+	}
+	for i := range loaded {
+		loaded[i] = impl.Image{Name: "scribbled"}
+	}
+	for i := range log {
+		log[i] = impl.Event{Measure: "scribbled"}
+	}
+}
+
+// roomyDevice has marked room behind each of its lists.
+func roomyDevice(d impl.Device) impl.Device {
+	d.Root.Boots.Words, d.Root.Regs = roomy(d.Root.Boots.Words, 77), roomy(d.Root.Regs, "mark")
+	d.Vault.Seals = roomy(d.Vault.Seals, sealAt(7, "mark"))
+	d.Loaded, d.Log = roomy(d.Loaded, impl.Image{Name: "mark"}), roomy(d.Log, impl.Event{Measure: "mark"})
+	return d
+}
+
+// wholeDevice has a copy of each list with the room behind it.
+func wholeDevice(d impl.Device) impl.Device {
+	whole := d
+	whole.Root.Boots.Words = slices.Clone(d.Root.Boots.Words[:cap(d.Root.Boots.Words)])
+	whole.Root.Regs = slices.Clone(d.Root.Regs[:cap(d.Root.Regs)])
+	whole.Vault.Seals = slices.Clone(d.Vault.Seals[:cap(d.Vault.Seals)])
+	whole.Loaded, whole.Log = slices.Clone(d.Loaded[:cap(d.Loaded)]), slices.Clone(d.Log[:cap(d.Log)])
+	return whole
+}
+
+func TestDeviceArgumentsStay(t *testing.T) {
+	images := someImages(3)
+	most, all := someImages(impl.MaxLayer+1), stepsOf(impl.MaxEvents, inTurn)
+	for _, d := range []impl.Device{{}, downDevice(), upDevice(nil, nil), upDevice(images, loadsOf(images)), upDevice(most, loadsOf(most)), upDevice(images, all), withVault(upDevice(images, all), vaultOf(2, 5)), withNamed(upDevice(images, all), "")} {
+		d = roomyDevice(d)
+		listed := roomy(someImages(3), impl.Image{Name: "mark"})
+		before := wholeDevice(d)
+		first := deviceAnswers(d, listed)
+		expect(t, "again", deviceAnswers(d, listed), first...)
+		if after := wholeDevice(d); !sameDevice(after, before) {
+			t.Error("device", after, before)
+		}
+		if !slices.Equal(listed[:cap(listed)], roomy(someImages(3), impl.Image{Name: "mark"})[:cap(listed)]) {
+			t.Error("listed", listed)
+		}
+	}
+}
+
+func TestLogArgumentsStay(t *testing.T) {
+	for _, events := range [][]impl.Event{nil, stepsOf(3, inTurn), stepsOf(impl.MaxEvents, inTurn), eventsOfSizes(1, 4000)} {
+		want := logBytes(events)
+		given := roomy(events, impl.Event{Measure: "mark"})
+		data := roomy(want, 77)
+		steps, whole := slices.Clone(given[:cap(given)]), slices.Clone(data[:cap(data)])
+		for range 2 {
+			written := impl.WriteLog(given)
+			read, code, at := impl.ReadLog(data)
+			if !slices.Equal(written, want) || !slices.Equal(read, events) || code != 0 || at != -1 || impl.FirstUnlike(given, read) != -1 {
+				t.Error("another answer", written, read, code, at)
+			}
+			clear(written[:cap(written)])
+			clear(read[:cap(read)])
+			if !slices.Equal(given[:cap(given)], steps) || !slices.Equal(data[:cap(data)], whole) {
+				t.Error("arguments", given, data)
+			}
+		}
+		read, _, _ := impl.ReadLog(data)
+		clear(data)
+		if !slices.Equal(read, events) {
+			t.Error("what was read hangs on the bytes", read)
+		}
+	}
+}
