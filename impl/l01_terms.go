@@ -180,6 +180,15 @@ func Make(kind int64, parts []string) (string, bool) {
 	return t, true
 }
 
+// signOfHash is what all signed texts are: (sign SECRET (hash PARTS)).
+func signOfHash(secret string, parts ...string) (string, bool) {
+	told, ok := Make(TmHash, parts)
+	if !ok {
+		return "", false
+	}
+	return Make(TmSign, []string{secret, told})
+}
+
 func Stands(t string, sub string) bool {
 	n, ok := readTerm(t)
 	return ok && n.holds(sub)

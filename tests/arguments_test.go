@@ -364,3 +364,89 @@ func TestLogArgumentsStay(t *testing.T) {
 		}
 	}
 }
+
+func scribbleImages(answer []impl.Image) {
+	all := answer[:cap(answer)]
+	for i := range all {
+		all[i] = impl.Image{Name: "scribbled"}
+	}
+}
+
+// replayAnswers asks everything of chapter 9 and writes over each answer.
+func replayAnswers(events []impl.Event, shown []string) []string {
+	var told []string
+	tell := func(images []impl.Image, code int64, at int64) {
+		told = append(told, nameOf(code), nameOf(at+1))
+		for _, image := range images {
+			told = append(told, image.Name, nameOf(image.Version))
+		}
+		scribbleImages(images)
+	}
+	tell(impl.ImagesOf(events))
+	for mask := range int64(257) {
+		tell(impl.Replay(events, shown, mask))
+		places, ok := impl.Depends(events, mask)
+		if ok {
+			told = append(told, "chosen")
+		}
+		for _, at := range places {
+			told = append(told, nameOf(at))
+		}
+		scribbleNumbers(places)
+	}
+	for _, e := range events {
+		layer, image, ok := impl.Looks(e.Measure)
+		if ok {
+			told = append(told, nameOf(layer), image.Name, nameOf(image.Version))
+		}
+	}
+	return told
+}
+
+func TestReplayArgumentsStay(t *testing.T) {
+	most, faulty := loadsOf(someImages(impl.MaxLayer+1)), loadsOf(someImages(3))
+	faulty[1].Measure = ""
+	for _, list := range [][]impl.Event{nil, most, among(loadsOf(someImages(3))), stepsOf(impl.MaxEvents, inTurn), stepsOf(impl.MaxEvents, inThree), faulty} {
+		events := roomy(list, impl.Event{Measure: "mark"})
+		steps := slices.Clone(events[:cap(events)])
+		for _, mask := range []int64{1, 3, 255} {
+			shown := roomy(chosenBy(folded(list), mask), "mark")
+			before := slices.Clone(shown[:cap(shown)])
+			first := replayAnswers(events, shown)
+			expect(t, "again", replayAnswers(events, shown), first...)
+			expect(t, "shown", shown[:cap(shown)], before...)
+			if !slices.Equal(events[:cap(events)], steps) {
+				t.Error("events", events)
+			}
+		}
+	}
+}
+
+// endorseAnswers asks everything of chapter 10.
+func endorseAnswers(certs []impl.Cert) []impl.Cert {
+	var told []impl.Cert
+	for now := int64(18); now < 93; now++ {
+		key, code, at := impl.CheckChain(linkKey(0), certs, now)
+		told = append(told, impl.Cert{Key: key, From: code, Until: at})
+		for i, c := range certs {
+			renewed, _ := impl.Renewed(c, linkSecret(i), now)
+			made, _ := impl.CertBy(linkSecret(i), c.Name, c.Key, c.From, now)
+			told = append(told, renewed, made, impl.Cert{From: impl.CheckCert(c, linkKey(i), now)})
+		}
+	}
+	return told
+}
+
+func TestEndorseArgumentsStay(t *testing.T) {
+	for _, list := range [][]impl.Cert{nil, chainOfMany(1), chainOfMany(impl.MaxChain), chainOfMany(impl.MaxChain + 1), withCert(chainOfMany(3), 1, impl.Cert{}), withCert(chainOfMany(3), 2, makerCert())} {
+		certs := roomy(list, impl.Cert{Name: "mark"})
+		before := slices.Clone(certs[:cap(certs)])
+		first := endorseAnswers(certs)
+		if again := endorseAnswers(certs); !slices.Equal(again, first) {
+			t.Error("other answers", first, again)
+		}
+		if !slices.Equal(certs[:cap(certs)], before) {
+			t.Error("certs", certs)
+		}
+	}
+}
