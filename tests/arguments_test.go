@@ -450,3 +450,92 @@ func TestEndorseArgumentsStay(t *testing.T) {
 		}
 	}
 }
+
+// policyAnswers asks everything of chapter 11 and writes over each answer.
+func policyAnswers(p impl.Policy, images []impl.Image) []string {
+	var told []string
+	tell := func(answer impl.Policy, ok bool) {
+		told = append(told, nameOf(answer.Number))
+		for _, r := range answer.Rows {
+			told = append(told, nameOf(r.Layer), r.Name, nameOf(r.Least))
+		}
+		told = append(told, answer.Withdrawn...)
+		rows := answer.Rows[:cap(answer.Rows)]
+		for i := range rows {
+			rows[i] = impl.Ref{Name: "scribbled"}
+		}
+		scribble(answer.Withdrawn)
+	}
+	if impl.PolicyOk(p) {
+		told = append(told, "right")
+	}
+	for _, measure := range []string{"a", "b", "c", "(hash n0 boot n1)", "", "z"} {
+		tell(impl.Withdraw(p, measure))
+	}
+	for layer := int64(-1); layer < 4; layer++ {
+		for _, name := range []string{"app", "boot", "core"} {
+			tell(impl.Demand(p, layer, name, 6))
+			told = append(told, nameOf(impl.Judge(p, layer, impl.Image{Name: name, Version: 5})))
+		}
+	}
+	code, at := impl.JudgeAll(p, images)
+	return append(told, nameOf(code), nameOf(at+1))
+}
+
+func TestPolicyArgumentsStay(t *testing.T) {
+	for _, p := range []impl.Policy{{}, aPolicy(), withNumber(aPolicy(), -1), withWithdrawn(aPolicy()), withWithdrawn(aPolicy(), "b", "a"), withWithdrawn(aPolicy(), names(impl.MaxRows)...), withRows(aPolicy(), refsOf(impl.MaxRows)...), withRows(aPolicy(), refsOf(impl.MaxRows+1)...)} {
+		p.Rows, p.Withdrawn = roomy(p.Rows, impl.Ref{Name: "mark"}), roomy(p.Withdrawn, "mark")
+		images := roomy([]impl.Image{{Name: "boot", Version: 2}, {Name: "core", Version: 8}, {Name: "core", Version: 1}}, impl.Image{Name: "mark"})
+		rows, withdrawn, before := slices.Clone(p.Rows[:cap(p.Rows)]), slices.Clone(p.Withdrawn[:cap(p.Withdrawn)]), slices.Clone(images[:cap(images)])
+		first := policyAnswers(p, images)
+		expect(t, "again", policyAnswers(p, images), first...)
+		expect(t, "withdrawn", p.Withdrawn[:cap(p.Withdrawn)], withdrawn...)
+		if !slices.Equal(p.Rows[:cap(p.Rows)], rows) || !slices.Equal(images[:cap(images)], before) {
+			t.Error("arguments", p.Rows, images)
+		}
+	}
+}
+
+// tableAnswers asks everything of chapter 12 and writes over each answer.
+func tableAnswers(x impl.Table) []string {
+	var told []string
+	tell := func(answer impl.Table) {
+		told = append(told, answer.Secret, nameOf(answer.Now), nameOf(answer.Next))
+		for _, n := range answer.Open {
+			told = append(told, nameOf(n.Number), nameOf(n.Born))
+		}
+		open := answer.Open[:cap(answer.Open)]
+		for i := range open {
+			open[i] = impl.Nonce{Number: -5, Born: -5}
+		}
+	}
+	if impl.TableOk(x) {
+		told = append(told, "right")
+	}
+	next, nonce, code := impl.Challenge(x)
+	tell(next)
+	told = append(told, nonce, nameOf(code))
+	for n := int64(-1); n < 30; n++ {
+		passed, _ := impl.Pass(x, n)
+		tell(passed)
+		spent, code := impl.Spend(x, nonceText(n))
+		tell(spent)
+		told = append(told, nameOf(code))
+	}
+	open := impl.OpenNow(x)
+	told = append(told, open...)
+	scribble(open)
+	return told
+}
+
+func TestTableArgumentsStay(t *testing.T) {
+	for _, x := range slices.Concat(rightTables(), wrongTables()) {
+		x.Open = roomy(x.Open, impl.Nonce{Number: 77})
+		before := slices.Clone(x.Open[:cap(x.Open)])
+		first := tableAnswers(x)
+		expect(t, "again", tableAnswers(x), first...)
+		if !slices.Equal(x.Open[:cap(x.Open)], before) {
+			t.Error("open", x.Open)
+		}
+	}
+}
