@@ -539,3 +539,156 @@ func TestTableArgumentsStay(t *testing.T) {
 		}
 	}
 }
+
+// tellVerifier tells all that stands in a Verifier and writes over its lists.
+func tellVerifier(v impl.Verifier) []string {
+	told := []string{v.Secret, v.Root, nameOf(v.Policy.Number), nameOf(v.Table.Now), nameOf(v.Table.Next)}
+	for _, r := range v.Policy.Rows {
+		told = append(told, nameOf(r.Layer), r.Name, nameOf(r.Least))
+	}
+	told = append(told, v.Policy.Withdrawn...)
+	for _, n := range v.Table.Open {
+		told = append(told, nameOf(n.Number), nameOf(n.Born))
+	}
+	rows, open := v.Policy.Rows[:cap(v.Policy.Rows)], v.Table.Open[:cap(v.Table.Open)]
+	for i := range rows {
+		rows[i] = impl.Ref{Name: "scribbled"}
+	}
+	for i := range open {
+		open[i] = impl.Nonce{Number: -5, Born: -5}
+	}
+	scribble(v.Policy.Withdrawn)
+	return told
+}
+
+// verdictAnswers asks Appraise and writes over each answer.
+func verdictAnswers(v impl.Verifier, e impl.Evidence) []string {
+	var told []string
+	if impl.VerifierOk(v) {
+		told = append(told, "right")
+	}
+	for _, nonce := range nonceTexts(2, 5, 8, 11, 12) {
+		for mask := e.Mask - 1; mask <= e.Mask; mask++ {
+			next, verdict := impl.Appraise(v, quoted(withMask(withNonce(e, nonce), mask), "!k"))
+			told = append(told, tellVerifier(next)...)
+			told = append(told, nameOf(verdict.Code), nameOf(verdict.Detail), verdict.Name, verdict.Token)
+			for _, image := range verdict.Images {
+				told = append(told, image.Name, nameOf(image.Version))
+			}
+			scribbleImages(verdict.Images)
+		}
+	}
+	return told
+}
+
+func roomyVerifier(v impl.Verifier) impl.Verifier {
+	v.Policy.Rows, v.Policy.Withdrawn = roomy(v.Policy.Rows, impl.Ref{Name: "mark"}), roomy(v.Policy.Withdrawn, "mark")
+	v.Table.Open = roomy(v.Table.Open, impl.Nonce{Number: 77})
+	return v
+}
+
+// wholeVerifier has a copy of each list with the room behind it.
+func wholeVerifier(v impl.Verifier) impl.Verifier {
+	v.Policy.Rows, v.Policy.Withdrawn = slices.Clone(v.Policy.Rows[:cap(v.Policy.Rows)]), slices.Clone(v.Policy.Withdrawn[:cap(v.Policy.Withdrawn)])
+	v.Table.Open = slices.Clone(v.Table.Open[:cap(v.Table.Open)])
+	return v
+}
+
+func roomyEvidence(e impl.Evidence) impl.Evidence {
+	e.Shown, e.Log, e.Certs = roomy(e.Shown, "mark"), roomy(e.Log, 77), roomy(e.Certs, impl.Cert{Name: "mark"})
+	return e
+}
+
+func wholeEvidence(e impl.Evidence) impl.Evidence {
+	e.Shown, e.Log, e.Certs = slices.Clone(e.Shown[:cap(e.Shown)]), slices.Clone(e.Log[:cap(e.Log)]), slices.Clone(e.Certs[:cap(e.Certs)])
+	return e
+}
+
+func TestAppraiseArgumentsStay(t *testing.T) {
+	images := someImages(3)
+	right := verifierFor(images)
+	listed := withPolicy(right, withWithdrawn(right.Policy, "a", "b"))
+	for _, v := range []impl.Verifier{{}, right, listed, withPolicy(right, aPolicy()), withRootKey(right, "!root")} {
+		for _, e := range []impl.Evidence{{}, evidenceOf(loadsOf(images), 255), evidenceOf(loadsOf(images), 1), evidenceOf(nil, 255), evidenceOf(among(loadsOf(images)), 254), withCerts(evidenceOf(nil, 255))} {
+			given, shown := roomyVerifier(v), roomyEvidence(e)
+			before, told := wholeVerifier(given), wholeEvidence(shown)
+			first := verdictAnswers(given, shown)
+			expect(t, "again", verdictAnswers(given, shown), first...)
+			if !sameVerifier(wholeVerifier(given), before) || !sameEvidence(wholeEvidence(shown), told) {
+				t.Error("arguments", given, shown)
+			}
+		}
+	}
+}
+
+// evidenceAnswers asks EvidenceOf and writes over each answer.
+func evidenceAnswers(d impl.Device, certs []impl.Cert) []string {
+	var told []string
+	for mask := int64(-1); mask <= 256; mask++ {
+		e, ok := impl.EvidenceOf(d, "x", mask, certs)
+		if !ok {
+			continue
+		}
+		told = append(told, e.Nonce, nameOf(e.Boots), nameOf(e.Mask), e.Quote, string(e.Log))
+		told = append(told, e.Shown...)
+		for _, c := range e.Certs {
+			told = append(told, c.Name, c.Key, c.Sign)
+		}
+		scribble(e.Shown)
+		clear(e.Log[:cap(e.Log)])
+		clear(e.Certs[:cap(e.Certs)])
+	}
+	return told
+}
+
+func TestEvidenceArgumentsStay(t *testing.T) {
+	images := someImages(3)
+	for _, d := range []impl.Device{{}, downDevice(), upDevice(nil, nil), upDevice(images, loadsOf(images)), upDevice(images, stepsOf(impl.MaxEvents, inTurn))} {
+		for _, list := range [][]impl.Cert{nil, devCerts(), chainOfMany(impl.MaxChain + 1)} {
+			given, certs := roomyDevice(d), roomy(list, impl.Cert{Name: "mark"})
+			before, told := wholeDevice(given), slices.Clone(certs[:cap(certs)])
+			first := evidenceAnswers(given, certs)
+			expect(t, "again", evidenceAnswers(given, certs), first...)
+			if !sameDevice(wholeDevice(given), before) || !slices.Equal(certs[:cap(certs)], told) {
+				t.Error("arguments", given, certs)
+			}
+		}
+	}
+}
+
+// relyingAnswers asks everything of chapter 14 that a Relying goes into, and writes over each answer.
+func relyingAnswers(y impl.Relying) []string {
+	var told []string
+	tell := func(answer impl.Relying, code int64) {
+		told = append(told, nameOf(code))
+		for _, list := range [][]string{answer.Issuers, answer.Asked, answer.Taken} {
+			told = append(told, nameOf(int64(len(list))))
+			told = append(told, list...)
+		}
+		scribble(answer.Issuers)
+		scribble(answer.Asked)
+		scribble(answer.Taken)
+	}
+	if impl.RelyingOk(y) {
+		told = append(told, "right")
+	}
+	for _, nonce := range []string{"a", "b", "bb", "d", "f", "z", "", "(hash a)"} {
+		tell(impl.AskFor(y, nonce))
+		for _, secret := range []string{"!u", "!w", "!x"} {
+			tell(impl.Accept(y, tokenText(secret, nonce, "dev", 7), nonce, "dev", 7))
+		}
+	}
+	return told
+}
+
+func TestRelyingArgumentsStay(t *testing.T) {
+	for _, y := range slices.Concat(rightRelyings(), wrongRelyings()) {
+		y = relyingOf(roomy(y.Issuers, "mark"), roomy(y.Asked, "mark"), roomy(y.Taken, "mark"))
+		issuers, asked, taken := slices.Clone(y.Issuers[:cap(y.Issuers)]), slices.Clone(y.Asked[:cap(y.Asked)]), slices.Clone(y.Taken[:cap(y.Taken)])
+		first := relyingAnswers(y)
+		expect(t, "again", relyingAnswers(y), first...)
+		expect(t, "issuers", y.Issuers[:cap(y.Issuers)], issuers...)
+		expect(t, "asked", y.Asked[:cap(y.Asked)], asked...)
+		expect(t, "taken", y.Taken[:cap(y.Taken)], taken...)
+	}
+}
