@@ -692,3 +692,63 @@ func TestRelyingArgumentsStay(t *testing.T) {
 		expect(t, "taken", y.Taken[:cap(y.Taken)], taken...)
 	}
 }
+
+// tellPlaces tells them behind what is told, and writes over them.
+func tellPlaces(told []float64, places []int64) []float64 {
+	for _, at := range places {
+		told = append(told, float64(at))
+	}
+	scribbleNumbers(places)
+	return told
+}
+
+// scoreAnswers asks all of chapter 15 that takes a list, and writes over each answer.
+func scoreAnswers(marks []impl.Mark, values []float64) []float64 {
+	told := []float64{impl.Blend(marks), impl.Median(values)}
+	return tellPlaces(told, impl.Ranked(values))
+}
+
+func TestScoreArgumentsStay(t *testing.T) {
+	r := rand.New(rand.NewSource(71))
+	for _, size := range []int{0, 1, 2, 7, 30, impl.MaxMarks, impl.MaxMarks + 1} {
+		values := roomy(someFloats(r, size, someFloat), 77)
+		marks := roomy(marksOf(someFloats(r, 2*size, someFloat)...), impl.Mark{Value: 77})
+		before, given := slices.Clone(values[:cap(values)]), slices.Clone(marks[:cap(marks)])
+		first := scoreAnswers(marks, values)
+		if again := scoreAnswers(marks, values); !allAlike(again, first) {
+			t.Error("other answers", first, again)
+		}
+		sameMark := func(a impl.Mark, b impl.Mark) bool { return alike(a.Weight, b.Weight) && alike(a.Value, b.Value) }
+		if !allAlike(values[:cap(values)], before) || !slices.EqualFunc(marks[:cap(marks)], given, sameMark) {
+			t.Error("arguments", values, marks)
+		}
+	}
+}
+
+// clockAnswers asks all of chapter 16 that takes a list, and writes over each answer.
+func clockAnswers(ticks []int64, one []float64, two []float64) []float64 {
+	c, _ := impl.FitClock(ticks, one)
+	low, high, _ := impl.Overlap(one, two)
+	told := []float64{c.Rate, c.Offset, low, high}
+	return tellPlaces(told, impl.Marked(one, 8, 3))
+}
+
+func TestClockArgumentsStay(t *testing.T) {
+	r := rand.New(rand.NewSource(72))
+	for _, size := range []int{0, 1, 2, 7, 30, impl.MaxMarks, impl.MaxMarks + 1} {
+		list, onLine := readings(r, size, 0, 1)
+		for _, shown := range [][]float64{onLine, someFloats(r, size, someFloat)} {
+			for _, highs := range [][]float64{slices.Repeat([]float64{infinite}, size), someFloats(r, size, someFloat)} {
+				ticks, one, two := roomy(list, 77), roomy(shown, 77), roomy(highs, 77)
+				given, ones, twos := slices.Clone(ticks[:cap(ticks)]), slices.Clone(one[:cap(one)]), slices.Clone(two[:cap(two)])
+				first := clockAnswers(ticks, one, two)
+				if again := clockAnswers(ticks, one, two); !allAlike(again, first) {
+					t.Error("other answers", first, again)
+				}
+				if !slices.Equal(ticks[:cap(ticks)], given) || !allAlike(one[:cap(one)], ones) || !allAlike(two[:cap(two)], twos) {
+					t.Error("arguments", ticks, one, two)
+				}
+			}
+		}
+	}
+}
