@@ -3,7 +3,6 @@ package tests
 import (
 	"fmt"
 	"reflect"
-	"slices"
 	"testing"
 )
 
@@ -46,6 +45,11 @@ func unlikeValues(a reflect.Value, b reflect.Value, toTheEnd bool, where string)
 			return fmt.Sprintf("%s has %d and %d", where, a.Len(), b.Len())
 		}
 		return ""
+	case reflect.Float64:
+		if alike(a.Float(), b.Float()) {
+			return ""
+		}
+		return fmt.Sprintf("%s is %x and %x", where, a.Float(), b.Float())
 	}
 	if a.Equal(b) {
 		return ""
@@ -100,6 +104,24 @@ func mark(v reflect.Value) {
 		v.SetInt(77)
 	case reflect.Uint8:
 		v.SetUint(77)
+	case reflect.Float64:
+		v.SetFloat(77)
+	}
+}
+
+// markAll writes over all lists of an answer with the room behind them.
+func markAll(v reflect.Value) {
+	switch v.Kind() {
+	case reflect.Struct:
+		for i := range v.NumField() {
+			markAll(v.Field(i))
+		}
+	case reflect.Slice:
+		for i := range v.Cap() {
+			item := v.Slice(0, v.Cap()).Index(i)
+			markAll(item)
+			mark(item)
+		}
 	}
 }
 
@@ -129,10 +151,22 @@ func spansOf(v reflect.Value, where string) []span {
 
 // sharings tells what lists of the answer share memory, with one of an argument or among each other.
 func sharings(answer any, arguments ...any) []string {
-	own := spansOf(reflect.ValueOf(answer), "answer")
-	all := slices.Clone(own)
+	var others []reflect.Value
+	for _, a := range arguments {
+		others = append(others, reflect.ValueOf(a))
+	}
+	return sharingsOf([]reflect.Value{reflect.ValueOf(answer)}, others)
+}
+
+// sharingsOf is sharings of an answer of several values.
+func sharingsOf(answer []reflect.Value, arguments []reflect.Value) []string {
+	var own, all []span
+	for _, a := range answer {
+		own = append(own, spansOf(a, "answer")...)
+	}
+	all = append(all, own...)
 	for i, a := range arguments {
-		all = append(all, spansOf(reflect.ValueOf(a), fmt.Sprintf("argument %d", i))...)
+		all = append(all, spansOf(a, fmt.Sprintf("argument %d", i))...)
 	}
 	var told []string
 	for i, one := range own {
@@ -184,4 +218,13 @@ func TestMemoryHelpers(t *testing.T) {
 		t.Error("two lists of one answer")
 	}
 	expectOwnMemory(t, "copies", one, two, w)
+	marked := spacious(w)
+	markAll(reflect.ValueOf(marked))
+	if !same(marked, whole{Parts: []part{{Names: []string{"mark", "mark"}, Good: true}, {Good: true}}, Bytes: []byte{77, 77, 77}}) || !same(one, w) {
+		t.Error("marked", marked)
+	}
+	numbers := []float64{noNumber, minusZero}
+	if !same(numbers, []float64{unlikeNaNs()[2], minusZero}) || same(numbers, []float64{noNumber, 0}) || same(numbers, []float64{0, minusZero}) {
+		t.Error("numbers", numbers)
+	}
 }
